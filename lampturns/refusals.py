@@ -1,0 +1,13 @@
+"""The refusals, an error class each."""
+
+
+class TooLong(Exception):
+    """The text has more bytes than a text may have."""
+
+
+class NoProgramme(Exception):
+    """The text is no programme's: the fault's kind, and the line at which it is."""
+
+    def __init__(self, kind, line):
+        self.kind = kind
+        self.line = line
