@@ -1,5 +1,6 @@
 """A text judged line by line, and the programme that it tells."""
 
+from lampturns.blocks import Block, change_step, rounds_step, wait_step
 from lampturns.lines import read_line, split_lines
 from lampturns.refusals import NoProgramme, TooLong
 
@@ -8,7 +9,6 @@ MOST_LINES = 4096
 MOST_PARTS = 16
 MOST_REPEATS = 8
 MOST_TICKS = 4611686018427387904
-TOO_MANY_TICKS = 4611686018427387905
 
 ENDINGS = ("again", "stop")
 
@@ -25,26 +25,28 @@ class Programme:
     """What the lines taken so far tell; all of them are as they must be."""
 
     def __init__(self):
-        # How many ticks each ended part lasts, by its name.
+        # The ended parts' blocks, by their names.
         self.parts = {}
         # The name of the part that's not ended yet, or None.
         self.part = None
         # The numbers of the repeats that aren't ended yet, the innermost last.
         self.repeats = []
-        # The ticks of the programme's own steps, then of all that isn't ended yet, the innermost last.
-        self.ticks = [0]
+        # The block of the programme's own steps.
+        self.own = Block()
+        # That block, then those that aren't ended yet, the innermost last.
+        self.within = [self.own]
         self.has_own_steps = False
         self.ending = None
 
     def is_within(self):
         """Whether a part or a repeat isn't ended yet."""
-        return self.part is not None or len(self.repeats) > 0
+        return len(self.within) > 1
 
     def take(self, line):
         """Take a line that may stand here."""
         if line.word == "part":
             self.part = line.value
-            self.ticks.append(0)
+            self.within.append(Block())
         elif line.word == "end":
             self.take_end()
         elif line.word in ENDINGS:
@@ -55,25 +57,23 @@ class Programme:
     def take_step(self, line):
         if self.part is None:
             self.has_own_steps = True
-        if line.word == "wait":
-            self.pass_ticks(line.value)
-        elif line.word == "do":
-            self.pass_ticks(self.parts[line.value])
-        elif line.word == "repeat":
+        if line.word == "repeat":
             self.repeats.append(line.value)
-            self.ticks.append(0)
+            self.within.append(Block())
+        elif line.word == "do":
+            self.within[-1].take(rounds_step(self.parts[line.value], 1))
+        elif line.word == "wait":
+            self.within[-1].take(wait_step(line.value))
+        else:
+            self.within[-1].take(change_step(line.word, line.value))
 
     def take_end(self):
-        ticks = self.ticks.pop()
+        block = self.within.pop()
         if len(self.repeats) > 0:
-            self.pass_ticks(self.repeats.pop() * ticks)
+            self.within[-1].take(rounds_step(block, self.repeats.pop()))
         else:
-            self.parts[self.part] = ticks
+            self.parts[self.part] = block
             self.part = None
-
-    def pass_ticks(self, ticks):
-        # What's too many once stays too many, so the number needn't grow with parts that use parts.
-        self.ticks[-1] = min(self.ticks[-1] + ticks, TOO_MANY_TICKS)
 
 
 def read_programme(t):
@@ -107,9 +107,9 @@ def fault_kind(programme, number, line):
         return MISNAMED
     if is_too_many(programme, number, line.word):
         return TOO_MANY
-    if line.word in ENDINGS and programme.ticks[0] > MOST_TICKS:
+    if line.word in ENDINGS and programme.own.ticks > MOST_TICKS:
         return LASTS_TOO_LONG
-    if line.word == "again" and programme.ticks[0] == 0:
+    if line.word == "again" and programme.own.ticks == 0:
         return LASTS_NOT
     return NO_FAULT
 

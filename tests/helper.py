@@ -119,35 +119,102 @@ def slow_judge(t):
     return [0], [int(above[-1][0] == b"again"), ticks_of(above, 0, len(above))]
 
 
-def run_ticks(lines):
-    """Run the steps of a right programme one behind another, and count the ticks as they pass."""
-    parts, place = {}, 1
-    words = [line.split(" ") for line in lines]
-    ticks, calls = 0, []
-    skipping = 0
-    while True:
-        word = words[place]
-        if skipping:
-            skipping += {"repeat": 1, "end": -1}.get(word[0], 0)
-        elif word[0] == "part":
-            parts[word[1]] = place
-            skipping = 1
-        elif word[0] in ("again", "stop"):
-            return ticks
-        elif word[0] == "wait":
-            for tick in range(int(word[1])):
-                ticks += 1
-        elif word[0] == "do":
-            calls.append(["part", place, 1])
-            place = parts[word[1]]
-        elif word[0] == "repeat":
-            calls.append(["repeat", place, int(word[1])])
-        elif word[0] == "end":
-            calls[-1][2] -= 1
-            if calls[-1][0] == "part":
-                place = calls.pop()[1]
-            elif calls[-1][2] > 0:
-                place = calls[-1][1]
+def plain_steps(lines):
+    """The steps of a right programme one behind another: parts and repeats are spelled out, `end` isn't there."""
+    parts, place, stack = {}, 1, [["own", []]]
+    while lines[place] not in ("again", "stop"):
+        word, value = (lines[place] + " ").split(" ")[:2]
+        if word in ("part", "repeat"):
+            stack.append([word, value, []])
+        elif word == "do":
+            stack[-1][-1].extend(parts[value])
+        elif word == "end":
+            word, value, steps = stack.pop()
+            if word == "part":
+                parts[value] = steps
             else:
-                calls.pop()
+                for k in range(int(value)):
+                    stack[-1][-1].extend(steps)
+        else:
+            stack[-1][-1].append((word, value))
         place += 1
+    return stack[0][1]
+
+
+def lamps_of(number):
+    return [number // 2 ** lamp % 2 == 1 for lamp in range(64)]
+
+
+def number_of(lamps):
+    return sum([2 ** lamp for lamp in range(64) if lamps[lamp]])
+
+
+def step_done(lamps, word, value):
+    """What shines behind a set, clear, flip or turn, lamp by lamp."""
+    if word == "turn":
+        return [lamps[lamp - int(value)] if lamp >= int(value) else lamps[lamp - int(value) + 64]
+                for lamp in range(64)]
+    named = lamps_of(int(value, 16))
+    told = {"set": lambda was: True, "clear": lambda was: False, "flip": lambda was: not was}[word]
+    return [told(was) if is_named else was for was, is_named in zip(lamps, named)]
+
+
+def run_once(lines, x):
+    """Run the steps one behind another: what shines at each of their ticks, and what shines behind them."""
+    lamps, shown = lamps_of(x), []
+    for word, value in plain_steps(lines):
+        if word == "wait":
+            for tick in range(int(value)):
+                shown.append(number_of(lamps))
+        else:
+            lamps = step_done(lamps, word, value)
+    return shown, number_of(lamps)
+
+
+def run(lines, x, ticks):
+    """What shines at each of the first ticks, by running the programme: round behind round, or behind its end."""
+    shown = []
+    while len(shown) < ticks:
+        more, x = run_once(lines, x)
+        shown += more
+        if lines[-1] == "stop":
+            shown += [x] * ticks
+    return shown[:ticks]
+
+
+def sets(source):
+    """A set of lamps, as a number: none, all, single ones, few, many."""
+    return source.choice([0, 2 ** 64 - 1, 1, 2 ** 63, 2 ** source.randrange(64), source.randrange(2 ** 64),
+                          source.randrange(2 ** 64) & source.randrange(2 ** 64) & source.randrange(2 ** 64)])
+
+
+def some_steps(source, parts, depth=0, rounds=3, waits=4):
+    """The lines of a few steps, repeats in repeats among them, and of those parts."""
+    lines = []
+    for k in range(source.randrange(5)):
+        choice = source.randrange(9)
+        if choice == 0 and parts:
+            lines.append("do " + source.choice(parts))
+        elif choice <= 2 and depth < 3:
+            lines += [f"repeat {source.randrange(1, rounds + 1)}"]
+            lines += some_steps(source, parts, depth + 1, rounds, waits) + ["end"]
+        elif choice <= 5:
+            lines.append(f"{source.choice(['set', 'clear', 'flip', 'flip'])} {sets(source):016x}")
+        elif choice == 6:
+            lines.append(f"turn {source.choice([0, 1, 2, 8, 32, 63, source.randrange(64)])}")
+        else:
+            lines.append(f"wait {source.randrange(1, waits + 1)}")
+    return lines
+
+
+def some_programme(source, ending=None, rounds=3, waits=4):
+    """The lines of a right programme, of parts that use parts; with the ending, if it may stand there."""
+    lines, parts = ["show s"], []
+    for part in range(source.randrange(4)):
+        lines += [f"part p{part}"] + some_steps(source, parts, 0, rounds, waits) + ["end"]
+        parts.append(f"p{part}")
+    lines += some_steps(source, parts, 0, rounds, waits)
+    ending = ending or source.choice(["again", "again", "stop"])
+    if ending == "again" and not ticks_of([read(line.encode()) for line in lines], 0, len(lines)):
+        lines.append("wait 1")
+    return lines + [ending]

@@ -1,16 +1,25 @@
-"""What holds for both calls: nothing is changed or kept, whole numbers come back, and soon."""
+"""What holds for all calls: nothing is changed or kept, whole numbers come back, and soon."""
 
 import random
 import time
 import unittest
 
-from lampturns.desk import judge, long
+from lampturns.desk import at, judge, long, once
 from tests.helper import slow_judge, text
 
 SECONDS = 5
 
-RIGHT = text("show s", "part a", "wait 2", "end", "repeat 3", "do a", "end", "again")
-WRONG = text("show s", "part a", "wait 2", "end", "repeat 3", "do b", "end", "again")
+RIGHT = text("show s", "part a", "wait 2", "turn 1", "end", "repeat 3", "do a", "end", "again")
+WRONG = text("show s", "part a", "wait 2", "turn 1", "end", "repeat 3", "do b", "end", "again")
+
+# Each call as one of a text, and what it answers of RIGHT and of WRONG.
+CALLS = (
+    (judge, [0], [-6, 3, 6]),
+    (long, [1, 6], [-6]),
+    (lambda t: once(5, t), [0, 40], [-6]),
+    (lambda t: at(5, 4, t), [0, 20], [-6]),
+    (lambda t: at(5, 2 ** 64 - 1, t), [0, 5 * 2 ** 63 % (2 ** 64 - 1)], [-6]),
+)
 
 
 def deepest():
@@ -27,20 +36,25 @@ def deepest():
 class TestNothingKept(unittest.TestCase):
     def test_text_stays_as_it_was(self):
         for t in ([], RIGHT, WRONG, RIGHT[:-1], [0] * 65537):
-            for call in (judge, long):
+            for call, right, wrong in CALLS:
                 given = list(t)
                 call(given)
                 self.assertEqual(given, t)
 
     def test_a_second_call_answers_like_the_first(self):
-        for call, right, wrong in ((judge, [0], [-6, 3, 5]), (long, [1, 6], [-6])):
-            for time_called in range(2):
-                self.assertEqual(call(RIGHT), right)
-                self.assertEqual(call(WRONG), wrong)
-                self.assertEqual(call([0] * 65537), [-2])
+        for time_called in range(2):
+            for call, right, wrong in CALLS:
+                self.assertEqual([call(RIGHT), call(WRONG), call([0] * 65537)], [right, wrong, [-2]])
+
+    def test_calls_in_any_order(self):
+        source = random.Random(7)
+        for k in range(500):
+            call, right, wrong = source.choice(CALLS)
+            t, expected = source.choice([(RIGHT, right), (WRONG, wrong)])
+            self.assertEqual(call(t), expected)
 
     def test_what_is_given_back_is_not_shared(self):
-        for call in (judge, long):
+        for call, right, wrong in CALLS:
             for t in (RIGHT, WRONG, [0] * 65537):
                 first = call(t)
                 expected = list(first)
@@ -48,7 +62,7 @@ class TestNothingKept(unittest.TestCase):
                 self.assertEqual(call(t), expected)
 
     def test_whole_numbers_in_a_list(self):
-        for call in (judge, long):
+        for call, right, wrong in CALLS:
             for t in (RIGHT, WRONG, text("show s", "stop"), [], [0] * 65537):
                 answer = call(t)
                 self.assertIs(type(answer), list)
@@ -108,7 +122,8 @@ class TestSlowJudge(unittest.TestCase):
         lines += self.steps(source, names, 0) + [source.choice(["again", "stop"])]
         while source.random() < 0.3:
             place = source.randrange(len(lines))
-            other = source.choice(["end", "show s", "part p0", "part x", "do p1", "repeat 2", "again", "stop", "wait 1"])
+            other = source.choice(["end", "show s", "part p0", "part x", "do p1", "repeat 2", "again", "stop",
+                                   "wait 1"])
             lines[place:place + source.randrange(2)] = source.choice([[], [other]])
         return lines
 

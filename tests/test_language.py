@@ -27,6 +27,12 @@ WORDS_OUT = (
     "NamedTuple TypedDict TYPE_CHECKING abstractmethod"
 ).split()
 
+OWN_METHODS = (
+    "append clear copy count endswith extend find get index insert isalnum isalpha isdigit islower isspace isupper "
+    "items join keys ljust lower lstrip partition pop remove replace reverse rfind rjust rpartition rsplit rstrip "
+    "setdefault split splitlines startswith strip update upper values zfill bit_length"
+).split()
+
 NAMES_OUT = "register mro elements open input version_info with_traceback add_note format format_map".split()
 
 
@@ -91,6 +97,38 @@ class TestLanguage(unittest.TestCase):
                 if isinstance(node, ast.Attribute):
                     self.assertNotIn(node.attr, NAMES_OUT)
                     self.assertFalse(node.attr.startswith("_"), node.attr)
+
+    def test_methods_and_values(self):
+        methods, values, called = set(), set(), set()
+        for source, tree in self.each():
+            for node in ast.walk(tree):
+                if isinstance(node, ast.ClassDef):
+                    methods |= {inner.name for inner in node.body if isinstance(inner, ast.FunctionDef)}
+                if isinstance(node, ast.Attribute) and isinstance(node.ctx, ast.Store):
+                    values.add(node.attr)
+                if isinstance(node, ast.Call) and isinstance(node.func, ast.Attribute):
+                    called.add(node.func.attr)
+        python_names = {name for value in ("", 0, [], {}, (), set(), b"") for name in value.__dir__()}
+        self.assertEqual(methods & values, set())
+        self.assertEqual(called - methods - set(OWN_METHODS), set())
+        self.assertEqual((methods | values) & python_names - {"__init__"}, set())
+
+    def test_nothing_but_plain_values_at_the_top(self):
+        for source, tree in self.each():
+            for node in tree.body:
+                self.assertIsInstance(node, (ast.Expr, ast.ImportFrom, ast.FunctionDef, ast.ClassDef, ast.Assign))
+                if isinstance(node, ast.Assign):
+                    ast.literal_eval(node.value)
+
+    def test_no_two_files_draw_from_one_another(self):
+        drawn = {}
+        for path, (source, tree) in zip(FILES, self.each()):
+            drawn[path.stem] = {node.module.split(".")[1] for node in tree.body if isinstance(node, ast.ImportFrom)}
+        while drawn:
+            free = [name for name in drawn if not drawn[name] & set(drawn)]
+            self.assertTrue(free, drawn)
+            for name in free:
+                drawn.pop(name)
 
 
 if __name__ == "__main__":

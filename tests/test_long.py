@@ -4,7 +4,7 @@ import random
 import unittest
 
 from lampturns.desk import judge, long
-from tests.helper import run_ticks, text
+from tests.helper import run_once, some_programme, text
 
 SET = "00000000000000ff"
 
@@ -70,32 +70,14 @@ class TestLong(unittest.TestCase):
 class TestAsRun(unittest.TestCase):
     """What running the steps one behind another takes: a repeat is N times its steps, a part is its steps."""
 
-    def steps(self, source, parts, depth):
-        lines = []
-        for k in range(source.randrange(4)):
-            choice = source.randrange(5)
-            if choice == 0 and parts:
-                lines.append("do " + source.choice(parts))
-            elif choice == 1 and depth < 3:
-                lines += [f"repeat {source.randrange(1, 4)}"] + self.steps(source, parts, depth + 1) + ["end"]
-            elif choice == 2:
-                lines.append(source.choice([f"set {SET}", f"flip {SET}", f"clear {SET}", "turn 3"]))
-            else:
-                lines.append(f"wait {source.randrange(1, 5)}")
-        return lines
-
     def test_random_programmes(self):
         source = random.Random(20261116)
         some = 0
         for k in range(500):
-            lines, parts = ["show s"], []
-            for part in range(source.randrange(5)):
-                lines += [f"part p{part}"] + self.steps(source, parts, 0) + ["end"]
-                parts.append(f"p{part}")
-            lines += self.steps(source, parts, 0) + ["stop"]
-            ticks = run_ticks(lines)
-            some += ticks > 0
-            self.assertEqual(long(text(*lines)), [0, ticks], lines)
+            lines = some_programme(source)
+            ticks = len(run_once(lines, 0)[0])
+            some += ticks > 1
+            self.assertEqual(long(text(*lines)), [int(lines[-1] == "again"), ticks], lines)
         self.assertGreater(some, 200)
 
 
