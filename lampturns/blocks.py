@@ -2,7 +2,7 @@
 
 from lampturns.changes import change_of, done_times, no_change
 
-# More ticks than any that are asked for; what a part that nobody uses lasts beyond it needn't be known.
+# More ticks than a programme may last in as many rounds as there are ticks; only parts that aren't used reach it.
 COUNTLESS = 340282366920938463463374607431768211456
 
 
@@ -21,6 +21,8 @@ class Block:
     """Steps one behind another: a part's, a repeat's, or a programme's own."""
 
     def __init__(self):
+        # Blocks are numbered when they end, so the ones that a block goes through have lower numbers.
+        self.number = None
         self.steps = []
         self.change = no_change()
         self.ticks = 0

@@ -1,11 +1,16 @@
 """The calls, as the document tells them."""
 
+from lampturns.burning import burnt_ticks
+from lampturns.changes import LAMPS
+from lampturns.places import place_of
 from lampturns.programme import read_programme
-from lampturns.refusals import NoProgramme, TooLong
-from lampturns.way import shining_at
+from lampturns.refusals import NoneThere, NoProgramme, OutOfBounds, TooLong
+from lampturns.watch import next_other
 
 DONE = 0
+OUT_OF_BOUNDS = -1
 TEXT_TOO_LONG = -2
+NONE_THERE = -5
 NO_PROGRAMME = -6
 
 
@@ -32,7 +37,30 @@ def once(x, t):
 
 def at(x, tick, t):
     """[0, what shines at the tick], or a refusal."""
-    return answer(t, lambda programme: [DONE, shining_at(programme, x, tick)])
+    return answer(t, lambda programme: [DONE, place_of(programme.whole, tick).shining(x)])
+
+
+def burnt(x, a, b, lamp, t):
+    """[0, at how many ticks from a on, before b, the lamp shines], or a refusal."""
+    return answer(t, lambda programme: tell_burnt(programme, x, a, b, lamp))
+
+
+def next_of(x, tick, t):
+    """[0, the first tick above this one at which something else shines], or a refusal."""
+    return answer(t, lambda programme: tell_next(programme, x, tick))
+
+
+def tell_burnt(programme, x, a, b, lamp):
+    if lamp >= LAMPS or a > b:
+        raise OutOfBounds()
+    return [DONE, burnt_ticks(programme, x, a, b, lamp)]
+
+
+def tell_next(programme, x, tick):
+    other = next_other(programme, x, tick)
+    if other is None:
+        raise NoneThere()
+    return [DONE, other]
 
 
 def answer(t, tell):
@@ -43,3 +71,7 @@ def answer(t, tell):
         return [TEXT_TOO_LONG]
     except NoProgramme:
         return [NO_PROGRAMME]
+    except OutOfBounds:
+        return [OUT_OF_BOUNDS]
+    except NoneThere:
+        return [NONE_THERE]

@@ -9,6 +9,8 @@ MOST_LINES = 4096
 MOST_PARTS = 16
 MOST_REPEATS = 8
 MOST_TICKS = 4611686018427387904
+# As many rounds, or ticks, as may be asked for: no tick is numbered so high.
+FOR_EVER = 18446744073709551616
 
 ENDINGS = ("again", "stop")
 
@@ -35,8 +37,12 @@ class Programme:
         self.own = Block()
         # That block, then those that aren't ended yet, the innermost last.
         self.within = [self.own]
+        # All blocks that are ended, by their numbers.
+        self.ended = []
         self.has_own_steps = False
         self.ending = None
+        # The programme's own steps with what comes behind their end, in a block that lasts for ever.
+        self.whole = None
 
     def is_within(self):
         """Whether a part or a repeat isn't ended yet."""
@@ -50,7 +56,7 @@ class Programme:
         elif line.word == "end":
             self.take_end()
         elif line.word in ENDINGS:
-            self.ending = line.word
+            self.take_ending(line.word)
         elif line.word != "show":
             self.take_step(line)
 
@@ -68,12 +74,38 @@ class Programme:
             self.within[-1].take(change_step(line.word, line.value))
 
     def take_end(self):
-        block = self.within.pop()
+        block = self.end_block(self.within.pop())
         if len(self.repeats) > 0:
             self.within[-1].take(rounds_step(block, self.repeats.pop()))
         else:
             self.parts[self.part] = block
             self.part = None
+
+    def take_ending(self, word):
+        self.ending = word
+        self.end_block(self.own)
+        self.whole = Block()
+        if word == "again":
+            self.whole.take(rounds_step(self.own, FOR_EVER))
+        else:
+            self.whole.take(rounds_step(self.own, 1))
+            self.whole.take(wait_step(FOR_EVER))
+        self.end_block(self.whole)
+
+    def end_block(self, block):
+        block.number = len(self.ended)
+        self.ended.append(block)
+        return block
+
+    def used_blocks(self):
+        """The whole and all blocks that it goes through, by their numbers."""
+        used = {self.whole.number: True}
+        for block in reversed(self.ended):
+            if block.number in used:
+                for step in block.steps:
+                    if step.block is not None:
+                        used[step.block.number] = True
+        return [block for block in self.ended if block.number in used]
 
 
 def read_programme(t):

@@ -11,3 +11,11 @@ class NoProgramme(Exception):
     def __init__(self, kind, line):
         self.kind = kind
         self.line = line
+
+
+class OutOfBounds(Exception):
+    """There's no such lamp, or the ticks end before they begin."""
+
+
+class NoneThere(Exception):
+    """What's asked for isn't there."""

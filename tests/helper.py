@@ -218,3 +218,12 @@ def some_programme(source, ending=None, rounds=3, waits=4):
     if ending == "again" and not ticks_of([read(line.encode()) for line in lines], 0, len(lines)):
         lines.append("wait 1")
     return lines + [ending]
+
+
+def far_programme(source):
+    """The lines of a right programme of repeats and waits that are often very long."""
+    while True:
+        rounds, waits = (2 ** source.choice([1, 3, 8, 16, 32]) - 1 for k in range(2))
+        lines = some_programme(source, None, rounds, waits)
+        if ticks_of([read(line.encode()) for line in lines], 0, len(lines)) <= MOST_TICKS:
+            return lines

@@ -4,7 +4,7 @@ import random
 import time
 import unittest
 
-from lampturns.desk import at, judge, long, once
+from lampturns.desk import at, burnt, judge, long, next_of, once
 from tests.helper import slow_judge, text
 
 SECONDS = 5
@@ -19,6 +19,11 @@ CALLS = (
     (lambda t: once(5, t), [0, 40], [-6]),
     (lambda t: at(5, 4, t), [0, 20], [-6]),
     (lambda t: at(5, 2 ** 64 - 1, t), [0, 5 * 2 ** 63 % (2 ** 64 - 1)], [-6]),
+    (lambda t: burnt(5, 0, 5, 2, t), [0, 3], [-6]),
+    (lambda t: burnt(5, 5, 0, 2, t), [-1], [-6]),
+    (lambda t: burnt(5, 0, 5, 64, t), [-1], [-6]),
+    (lambda t: next_of(5, 3, t), [0, 4], [-6]),
+    (lambda t: next_of(0, 3, t), [-5], [-6]),
 )
 
 

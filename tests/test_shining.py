@@ -32,10 +32,10 @@ class Shining(unittest.TestCase):
             self.shows(x, ["show s", "wait 2", *steps, "again"])
 
     def at(self, expected, x, tick, *lines):
-        self.assertEqual(at(x, tick, text(*lines)), [0, expected], (x, tick, lines))
+        self.assertEqual(at(x, tick, text(*lines)), [0, expected], (x, tick, lines[:40]))
 
     def once(self, expected, x, *lines):
-        self.assertEqual(once(x, text(*lines)), [0, expected], (x, lines))
+        self.assertEqual(once(x, text(*lines)), [0, expected], (x, lines[:40]))
 
 
 class TestSteps(Shining):
