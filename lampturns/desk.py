@@ -1,7 +1,7 @@
 """The calls, as the document tells them."""
 
 from lampturns.burning import burnt_ticks
-from lampturns.changes import LAMPS
+from lampturns.changes import LAMPS, Change, done_times
 from lampturns.places import place_of
 from lampturns.programme import read_programme
 from lampturns.refusals import NoneThere, NoProgramme, OutOfBounds, TooLong
@@ -48,6 +48,11 @@ def burnt(x, a, b, lamp, t):
 def next_of(x, tick, t):
     """[0, the first tick above this one at which something else shines], or a refusal."""
     return answer(t, lambda programme: tell_next(programme, x, tick))
+
+
+def map_of(x, k, a, b, n):
+    """[0, what becomes of x, if n times it is turned by k, only the lamps of a are kept, and those of b flipped]."""
+    return [DONE, done_times(Change(k % LAMPS, a, b), n).done_to(x)]
 
 
 def tell_burnt(programme, x, a, b, lamp):

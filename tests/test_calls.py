@@ -1,10 +1,11 @@
 """What holds for all calls: nothing is changed or kept, whole numbers come back, and soon."""
 
+import inspect
 import random
 import time
 import unittest
 
-from lampturns.desk import at, burnt, judge, long, next_of, once
+from lampturns.desk import at, burnt, judge, long, map_of, next_of, once
 from tests.helper import slow_judge, text
 
 SECONDS = 5
@@ -38,6 +39,13 @@ def deepest():
     return lines
 
 
+class TestInterface(unittest.TestCase):
+    def test_arguments_in_their_order(self):
+        for call, names in ((judge, "t"), (long, "t"), (once, "x t"), (at, "x tick t"), (burnt, "x a b lamp t"),
+                            (next_of, "x tick t"), (map_of, "x k a b n")):
+            self.assertEqual(list(inspect.signature(call).parameters), names.split(" "))
+
+
 class TestNothingKept(unittest.TestCase):
     def test_text_stays_as_it_was(self):
         for t in ([], RIGHT, WRONG, RIGHT[:-1], [0] * 65537):
@@ -58,6 +66,14 @@ class TestNothingKept(unittest.TestCase):
             t, expected = source.choice([(RIGHT, right), (WRONG, wrong)])
             self.assertEqual(call(t), expected)
 
+    def test_map_of_among_the_others(self):
+        for call, right, wrong in CALLS:
+            self.assertEqual([map_of(5, 1, 15, 16, 2), call(RIGHT)], [[0, 16 + 4], right])
+            self.assertEqual([map_of(5, 65, 15, 16, 2), call(WRONG)], [[0, 16 + 4], wrong])
+        first = map_of(5, 1, 15, 16, 2)
+        first.append(99)
+        self.assertEqual(map_of(5, 1, 15, 16, 2), [0, 16 + 4])
+
     def test_what_is_given_back_is_not_shared(self):
         for call, right, wrong in CALLS:
             for t in (RIGHT, WRONG, [0] * 65537):
@@ -72,6 +88,8 @@ class TestNothingKept(unittest.TestCase):
                 answer = call(t)
                 self.assertIs(type(answer), list)
                 self.assertEqual({type(number) for number in answer}, {int})
+        for n in (0, 1, 2 ** 64 - 1):
+            self.assertEqual([type(number) for number in map_of(1, 1, 1, 1, n)], [int, int])
 
 
 class TestSoon(unittest.TestCase):
